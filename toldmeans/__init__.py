@@ -1,0 +1,1 @@
+"""Toldmeans: what all shares with told means agree on, with papers."""
