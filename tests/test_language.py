@@ -46,12 +46,35 @@ INTERFACE = {
     "polys.py": {
         "Poly": ["numbers"], "divided": ["one", "other"], "common": ["one", "other"],
     },
+    "sums.py": {
+        "Reached": ["number", "spots", "weights"], "Endless": ["spots", "run"], "Nothing": ["weights"],
+        "largest": ["rows", "right", "worth"], "is_largest": ["rows", "right", "worth", "told"],
+    },
+    "broken.py": {
+        "Broken": ["knots", "polys", "at"], "constant": ["low", "high", "number"],
+        "closed_step": ["low", "high", "one", "other"], "open_step": ["low", "high", "one", "other"],
+        "total": ["one", "other"], "scaled": ["f", "by"], "joined": ["f"], "same": ["one", "other"],
+        "greater": ["one", "other"], "shifted": ["f", "start", "step"],
+    },
+    "signs.py": {
+        "Split": ["root", "rest", "cuts"], "Paper": ["splits"], "Below": ["place", "number"],
+        "Floor": ["number", "paper", "place"], "never_below": ["f"], "is_paper": ["f", "told"], "least": ["f", "bits"],
+    },
+    "texts.py": {
+        "poly_of": ["text"], "broken_of": ["text"], "poly_text": ["poly"], "broken_text": ["f"],
+    },
 }
 
-POLY_METHODS = {
-    "__eq__": ["other"], "__add__": ["other"], "__radd__": ["other"], "__sub__": ["other"], "__rsub__": ["other"],
-    "__mul__": ["other"], "__rmul__": ["other"], "__neg__": [], "degree": [], "at": ["place"], "slope": [], "area": [],
-    "moved": ["start", "step"],
+METHODS_OF = {
+    ("polys.py", "Poly"): {
+        "__eq__": ["other"], "__add__": ["other"], "__radd__": ["other"], "__sub__": ["other"], "__rsub__": ["other"],
+        "__mul__": ["other"], "__rmul__": ["other"], "__neg__": [], "degree": [], "at": ["place"], "slope": [],
+        "area": [], "moved": ["start", "step"],
+    },
+    ("broken.py", "Broken"): {
+        "__eq__": ["other"], "value": ["x"], "limits": ["x"], "is_plain": [], "is_upper": [], "is_lower": [],
+        "is_line": [],
+    },
 }
 
 
@@ -189,6 +212,29 @@ class FilesTest(unittest.TestCase):
             if isinstance(node.func, ast.Attribute):
                 self.assertIn(node.func.attr, METHODS | own, where)
 
+    def test_nothing_is_read_off_a_class(self):
+        # Poly has a method at, Broken an attribute of this name: so no method may be read off its class.
+        own = {node.name for _, node in self.nodes(ast.ClassDef)}
+        for where, node in self.nodes(ast.Attribute):
+            if isinstance(node.value, ast.Name):
+                self.assertNotIn(node.value.id, own, where)
+
+    def test_what_is_iterated_is_not_kept(self):
+        for where, node in self.nodes(ast.Assign, ast.Return):
+            if isinstance(node.value, ast.Call) and isinstance(node.value.func, ast.Name):
+                self.assertNotIn(node.value.func.id, ("zip", "enumerate", "reversed", "map"), where)
+
+    def test_functions_of_the_library_are_only_called(self):
+        names = set().union(*LIBRARY.values())
+        called = {id(node.func) for _, node in self.nodes(ast.Call)}
+        for where, node in self.nodes(ast.Name):
+            if node.id in names:
+                self.assertIn(id(node), called, where)
+        for where, node in self.nodes(ast.Call):
+            if isinstance(node.func, ast.Name) and node.func.id in names:
+                self.assertEqual(node.keywords, [], where)
+                self.assertEqual([part for part in node.args if isinstance(part, ast.Starred)], [], where)
+
     def test_raised_errors_are_made_on_the_spot(self):
         for where, node in self.nodes(ast.Raise):
             self.assertIsInstance(node.exc, ast.Call, where)
@@ -208,11 +254,12 @@ class InterfaceTest(unittest.TestCase):
                     self.assertEqual(arguments_of(methods_of(told[name])["__init__"])[1:], wanted, name)
 
     def test_methods_stand_in_their_class(self):
-        tree = ast.parse((PACKAGE / "polys.py").read_text(encoding="utf-8"))
-        poly = [part for part in tree.body if isinstance(part, ast.ClassDef) and part.name == "Poly"][0]
-        methods = methods_of(poly)
-        for name, wanted in POLY_METHODS.items():
-            self.assertEqual(arguments_of(methods[name])[1:], wanted, name)
+        for (file, owner), names in METHODS_OF.items():
+            tree = ast.parse((PACKAGE / file).read_text(encoding="utf-8"))
+            node = [part for part in tree.body if isinstance(part, ast.ClassDef) and part.name == owner][0]
+            methods = methods_of(node)
+            for name, wanted in names.items():
+                self.assertEqual(arguments_of(methods[name])[1:], wanted, name)
 
 
 if __name__ == "__main__":

@@ -13,7 +13,7 @@ class BadText(MeanError):
     """A text that is wrong at a column; the column 0 is for what is no text."""
 
     def __init__(self, column):
-        MeanError.__init__(self, "the text is wrong at this column")
+        super().__init__("the text is wrong at this column")
         self.column = column
 
 
@@ -21,7 +21,7 @@ class BadLine(MeanError):
     """A text of lines that is wrong at a line and a column."""
 
     def __init__(self, line, column):
-        MeanError.__init__(self, "the text is wrong at this line and column")
+        super().__init__("the text is wrong at this line and column")
         self.line = line
         self.column = column
 
@@ -30,7 +30,7 @@ class BadNumber(MeanError):
     """A value that cannot be the number that it stands for."""
 
     def __init__(self, what, number):
-        MeanError.__init__(self, "the value cannot be this number")
+        super().__init__("the value cannot be this number")
         self.what = what
         self.number = number
 
@@ -39,7 +39,7 @@ class BadRow(MeanError):
     """A value that is not the row that is asked for."""
 
     def __init__(self, row):
-        MeanError.__init__(self, "the value is not the row that is asked for")
+        super().__init__("the value is not the row that is asked for")
         self.row = row
 
 
@@ -47,7 +47,7 @@ class BadInterval(MeanError):
     """Two values that are not the ends of a stretch."""
 
     def __init__(self, low, high):
-        MeanError.__init__(self, "the values are not the ends of a stretch")
+        super().__init__("the values are not the ends of a stretch")
         self.low = low
         self.high = high
 
@@ -56,7 +56,7 @@ class BadName(MeanError):
     """A value that cannot be a name."""
 
     def __init__(self, name):
-        MeanError.__init__(self, "the value cannot be a name")
+        super().__init__("the value cannot be a name")
         self.name = name
 
 
@@ -64,7 +64,7 @@ class Unlike(MeanError):
     """Values that do not fit each other, or what is asked of them."""
 
     def __init__(self, what):
-        MeanError.__init__(self, "the values do not fit each other")
+        super().__init__("the values do not fit each other")
         self.what = what
 
 
@@ -72,7 +72,7 @@ class NoName(MeanError):
     """A name that nothing has."""
 
     def __init__(self, name):
-        MeanError.__init__(self, "nothing has this name")
+        super().__init__("nothing has this name")
         self.name = name
 
 
@@ -80,7 +80,7 @@ class TakenName(MeanError):
     """A name that something has already."""
 
     def __init__(self, name):
-        MeanError.__init__(self, "something has this name already")
+        super().__init__("something has this name already")
         self.name = name
 
 
@@ -88,7 +88,7 @@ class NotKept(MeanError):
     """A promise that is not kept, with the witness of this."""
 
     def __init__(self, promise, witness):
-        MeanError.__init__(self, "the promise is not kept")
+        super().__init__("the promise is not kept")
         self.promise = promise
         self.witness = witness
 

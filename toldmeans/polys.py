@@ -1,9 +1,10 @@
 """Polynomials in x with ratios as their numbers."""
 
-from math import gcd, lcm
+from math import gcd
 
 from toldmeans.errors import BadNumber, BadRow
 from toldmeans.ratios import is_ratio, lowest, minus, plus, share, times, told
+from toldmeans.rows import is_row, over_one_bottom
 
 
 class Poly:
@@ -92,13 +93,6 @@ class Poly:
         return found
 
 
-def is_row(value):
-    """Whether a value is a tuple or list of ratios."""
-    if not isinstance(value, (tuple, list)):
-        return False
-    return all([is_ratio(number) for number in value])
-
-
 def many_needed(row):
     """How many integers of a row are left without the zeros at its end."""
     many = len(row)
@@ -128,14 +122,6 @@ def added(one, other):
     """The sum of two Polys."""
     many = max(len(one.numbers), len(other.numbers))
     return Poly([plus(number_for(one, k), number_for(other, k)) for k in range(many)])
-
-
-def over_one_bottom(pairs):
-    """The integers that stand for a row of pairs above one bottom, and this bottom."""
-    shared = 1
-    for _, bottom in pairs:
-        shared = lcm(shared, bottom)
-    return [top * (shared // bottom) for top, bottom in pairs], shared
 
 
 def multiplied(one, other):

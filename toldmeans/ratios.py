@@ -76,6 +76,18 @@ def lower(one, other):
     return top * below < above * bottom
 
 
+def halfway(one, other):
+    """The ratio halfway between two ratios."""
+    return times(plus(one, other), (1, 2))
+
+
+def gap_of(bits):
+    """The gap of some bits: 2 to the power of -bits."""
+    if not is_whole(bits) or bits < 0 or bits > 60:
+        raise BadNumber("bits", bits)
+    return (1, 1 << bits)
+
+
 def floor_of(value):
     """The greatest integer that is not above a ratio."""
     top, bottom = told(value, "ratio")
