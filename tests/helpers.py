@@ -37,8 +37,8 @@ def check_error(test, error_class, fields, call, *arguments):
     test.assertIs(error.__class__, error_class)
     test.assertEqual(list(vars(error)), list(fields))
     for name, value in fields.items():
-        if value.__class__ is int:
-            test.assertIs(getattr(error, name).__class__, int)
+        if value.__class__ in (int, str):
+            test.assertIs(getattr(error, name).__class__, value.__class__)
             test.assertEqual(getattr(error, name), value)
         else:
             test.assertIs(getattr(error, name), value)

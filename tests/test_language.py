@@ -63,6 +63,53 @@ INTERFACE = {
     "texts.py": {
         "poly_of": ["text"], "broken_of": ["text"], "poly_text": ["poly"], "broken_text": ["f"],
     },
+    "shares.py": {
+        "Share": ["places", "parts"], "Told": ["function", "least", "most"], "mean": ["share", "function"],
+        "chance": ["share", "low", "high"], "chance_between": ["share", "low", "high"], "medians": ["share"],
+        "mixed": ["shares", "parts"], "moved": ["share", "factor", "shift"], "missed": ["share", "rows"],
+        "fits": ["share", "rows", "bits"],
+    },
+    "lines.py": {
+        "Fitting": ["share"], "NoShare": ["number", "factors"], "Top": ["mean", "share", "number", "factors"],
+        "Bottom": ["mean", "share", "number", "factors"], "Gain": ["number", "stakes", "share"], "line_fits": ["rows"],
+        "is_line_answer": ["rows", "told"], "line_greatest": ["rows", "function"], "line_least": ["rows", "function"],
+        "is_top": ["rows", "function", "told"], "is_bottom": ["rows", "function", "told"],
+        "median": ["low", "high", "place"], "as_moves": ["rows", "index", "function"], "sure_gain": ["rows"],
+        "is_gain": ["rows", "told"], "needless": ["rows"], "least_rows": ["rows"],
+    },
+    "means.py": {
+        "Above": ["upper", "number", "factors", "paper", "share"], "Barred": ["number", "factors", "paper"],
+        "Fits": ["share"], "greatest_mean": ["g", "rows", "bits"], "any_fit": ["rows", "bits"],
+        "is_above": ["g", "rows", "bits", "told"], "is_any_fit": ["rows", "bits", "told"],
+    },
+    "shapes.py": {
+        "Shape": ["word", "middle"], "Mixture": ["shape", "places", "parts"], "folded": ["f", "middle"],
+        "ShapedAbove": ["upper", "number", "factors", "papers", "mixture"],
+        "ShapedBarred": ["number", "factors", "papers"], "ShapedFits": ["mixture"], "area": ["f", "middle"],
+        "mean_at": ["shape", "f", "place"], "served": ["shape", "f"], "mean_of": ["mixture", "f"],
+        "as_share": ["mixture"], "greatest_shaped": ["g", "rows", "shape", "bits"],
+        "any_shaped": ["rows", "shape", "bits"], "is_greatest_shaped": ["g", "rows", "shape", "bits", "told"],
+        "is_any_shaped": ["rows", "shape", "bits", "told"],
+    },
+    "orders.py": {
+        "Best": ["cost", "first", "last"], "Orders": ["cost", "order", "number", "factors", "share"],
+        "NearOrder": ["order", "upper", "number", "factors", "papers", "share"],
+        "cost_line": ["low", "high", "order", "over", "under"], "cost_of": ["share", "order", "over", "under"],
+        "best_orders": ["share", "over", "under"], "least_worst": ["rows", "low", "high", "over", "under"],
+        "best_stretch": ["rows", "low", "high", "over", "under"],
+        "is_orders": ["rows", "low", "high", "over", "under", "told"],
+        "near_order": ["rows", "low", "high", "over", "under", "bits"],
+        "is_near_order": ["rows", "low", "high", "over", "under", "bits", "told"],
+    },
+    "news.py": {
+        "MayBe": ["low", "high", "low_share", "high_share"], "Narrowed": ["low", "high", "lower", "upper"],
+        "Fixed": ["number", "least", "greatest"], "Left": ["width", "value", "whole"], "may_be": ["rows", "function"],
+        "narrowed": ["rows", "function", "question"], "width_left": ["rows", "function", "question"],
+        "apart": ["rows", "others", "question"],
+    },
+    "desk.py": {
+        "Desk": ["text"],
+    },
 }
 
 METHODS_OF = {
@@ -75,7 +122,19 @@ METHODS_OF = {
         "__eq__": ["other"], "value": ["x"], "limits": ["x"], "is_plain": [], "is_upper": [], "is_lower": [],
         "is_line": [],
     },
+    ("shares.py", "Share"): {"__eq__": ["other"]},
+    ("shapes.py", "Shape"): {"__eq__": ["other"]},
+    ("desk.py", "Desk"): {
+        "__enter__": [], "__exit__": ["kind", "value", "trace"], "put": ["text"], "drop": ["name"],
+        "rename": ["name", "new"], "keep": ["promise"], "release": ["promise"], "attempt": ["action"],
+        "trial": ["action"], "undo": [], "redo": [], "lines": [], "names": [], "promises": [], "get": ["name"],
+        "kept": ["promise"], "broken": [],
+    },
 }
+
+# Attributes that LANGUAGE.md bars (L17, L26).
+NO_ATTRIBUTES = set("""items keys values pop update append clear extend insert remove reverse setdefault sort args encode
+    decode hex fromhex format format_map mro register elements open input law""".split())
 
 
 def files():
@@ -234,6 +293,75 @@ class FilesTest(unittest.TestCase):
             if isinstance(node.func, ast.Name) and node.func.id in names:
                 self.assertEqual(node.keywords, [], where)
                 self.assertEqual([part for part in node.args if isinstance(part, ast.Starred)], [], where)
+
+    def test_attributes(self):
+        own = set()
+        for _, node in self.nodes(ast.ClassDef):
+            own = own | set(methods_of(node))
+        stored = set()
+        for where, node in self.nodes(ast.Attribute):
+            if isinstance(node.ctx, ast.Store):
+                self.assertNotIn(node.attr, NO_ATTRIBUTES, where)
+                stored.add(node.attr)
+        for where, node in self.nodes(ast.Attribute):
+            if isinstance(node.ctx, ast.Load):
+                self.assertIn(node.attr, own | stored | METHODS, where)
+        for where, node in self.nodes(ast.ClassDef):
+            assigned = {part.attr for part in ast.walk(node) if isinstance(part, ast.Attribute)
+                        and isinstance(part.ctx, ast.Store) and part.value.id == "self"}
+            self.assertEqual(assigned & set(methods_of(node)), set(), where)
+
+    def test_calls_of_own_names_pass_what_they_take(self):
+        takes = {}
+        for path, tree in self.trees.items():
+            for node in tree.body:
+                if isinstance(node, ast.FunctionDef):
+                    takes[path.stem, node.name] = (len(node.args.args) - len(node.args.defaults), len(node.args.args))
+                if isinstance(node, ast.ClassDef) and "__init__" in methods_of(node):
+                    given = methods_of(node)["__init__"].args
+                    takes[path.stem, node.name] = (len(given.args) - len(given.defaults) - 1, len(given.args) - 1)
+        for path, tree in self.trees.items():
+            known = {name: counts for (stem, name), counts in takes.items() if stem == path.stem}
+            for node in tree.body:
+                if isinstance(node, ast.ImportFrom) and node.module.startswith("toldmeans."):
+                    for alias in node.names:
+                        known[alias.name] = takes.get((node.module.split(".")[1], alias.name))
+            for node in ast.walk(tree):
+                if isinstance(node, ast.Call) and isinstance(node.func, ast.Name) and known.get(node.func.id):
+                    least, most = known[node.func.id]
+                    self.assertEqual(node.keywords, [], f"{path.name}:{node.lineno}")
+                    self.assertTrue(least <= len(node.args) <= most, f"{path.name}:{node.lineno}")
+
+    def test_all_that_is_imported_is_used(self):
+        for path, tree in self.trees.items():
+            used = {node.id for node in ast.walk(tree) if isinstance(node, ast.Name)}
+            for node in tree.body:
+                if isinstance(node, ast.ImportFrom):
+                    for alias in node.names:
+                        self.assertIn(alias.name, used, path.name)
+
+    def test_what_stands_in_finally_and_exit(self):
+        for where, node in self.nodes(ast.Try):
+            for part in node.finalbody:
+                for inner in ast.walk(part):
+                    self.assertNotIsInstance(inner, (ast.Call, ast.Return, ast.Raise, ast.Subscript, ast.BinOp), where)
+        for where, node in self.nodes(ast.FunctionDef):
+            if node.name == "__exit__":
+                for part in node.body:
+                    self.assertIsInstance(part, ast.Assign, where)
+                    self.assertIsInstance(part.value, ast.Attribute, where)
+
+    def test_only_own_errors_are_caught(self):
+        own = {node.name for _, node in self.nodes(ast.ClassDef)}
+        for where, node in self.nodes(ast.ExceptHandler):
+            self.assertIsInstance(node.type, ast.Name, where)
+            self.assertIn(node.type.id, own, where)
+
+    def test_stars_stand_before_names_alone(self):
+        for where, node in self.nodes(ast.Call):
+            for part in node.args:
+                if isinstance(part, ast.Starred):
+                    self.assertIsInstance(part.value, (ast.Name, ast.Attribute), where)
 
     def test_raised_errors_are_made_on_the_spot(self):
         for where, node in self.nodes(ast.Raise):

@@ -22,6 +22,22 @@ def told_row(row):
     return tuple([told(number, "number") for number in row])
 
 
+def pair_of(number):
+    """A ratio as a pair in lowest terms."""
+    return told(number, "number")
+
+
+def sum_of(row):
+    """The sum of a row of ratios, as a pair."""
+    tops, bottom = over_one_bottom(told_row(row))
+    return lowest(sum(tops), bottom)
+
+
+def are_whole_parts(row):
+    """Whether the ratios of a row are above 0 and add up to 1."""
+    return all([lower(0, part) for part in row]) and sum_of(row) == (1, 1)
+
+
 def kept(value):
     """What an object without errors of its own keeps of a value: a list as a tuple, all else as it is."""
     if isinstance(value, list):

@@ -53,21 +53,23 @@ def moved_row(tops, start, step, bottom):
     return found
 
 
-def corners(poly, low, high):
-    """The corners of a Poly from low to high: integers, and the bottom above which they stand."""
+def corners(poly, low, high, degree=0):
+    """The corners of a Poly from low to high, as of a degree that is perhaps above its own: integers, and the
+    bottom above which they stand."""
     tops, below = over_one_bottom(poly.numbers)
+    own = max(0, len(tops) - 1)
+    most = max(own, degree)
     if len(tops) == 0:
-        return [0], 1
-    degree = len(tops) - 1
+        return [0 for _ in range(most + 1)], 1
     (start, step), bottom = over_one_bottom([low, minus(high, low)])
     row = moved_row(tops, start, step, bottom)
-    for _ in range(degree):
+    for _ in range(own):
         below = below * bottom
     shared = 1
-    for k in range(degree):
-        shared = lcm(shared, comb(degree, k))
-    parts = [number * shared // comb(degree, k) for k, number in enumerate(row)]
-    found = [sum([comb(k, n) * parts[n] for n in range(k + 1)]) for k in range(degree + 1)]
+    for k in range(most):
+        shared = lcm(shared, comb(most, k))
+    parts = [number * shared // comb(most, k) for k, number in enumerate(row)]
+    found = [sum([comb(k, n) * parts[n] for n in range(min(k, own) + 1)]) for k in range(most + 1)]
     return shortened(found, below * shared)
 
 

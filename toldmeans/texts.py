@@ -122,11 +122,9 @@ def poly_of(text):
     return poly
 
 
-def broken_of(text):
-    """The Broken that a text stands for."""
-    if not isinstance(text, str):
-        raise BadText(0)
-    knot, number, at = knot_at(text, behind_spaces(text, 0))
+def pieces_at(text, at):
+    """The knots, the Polys and the told numbers, None for none, of the text of a function from there to the end."""
+    knot, number, at = knot_at(text, behind_spaces(text, at))
     knots = [knot]
     polys = []
     numbers = [number]
@@ -136,11 +134,24 @@ def broken_of(text):
         knots.append(knot)
         polys.append(poly)
         numbers.append(number)
-    if not ascends(knots):
-        raise BadText(1)
+    return knots, polys, numbers
+
+
+def with_usual(knots, polys, numbers):
+    """The Broken with the usual numbers at the knots where none are told."""
     f = Broken(knots, polys, [0 for _ in knots])
     usual = [usual_number(f, index) for index in range(len(knots))]
     return Broken(knots, polys, [known if told is None else told for known, told in zip(usual, numbers)])
+
+
+def broken_of(text):
+    """The Broken that a text stands for."""
+    if not isinstance(text, str):
+        raise BadText(0)
+    knots, polys, numbers = pieces_at(text, 0)
+    if not ascends(knots):
+        raise BadText(1)
+    return with_usual(knots, polys, numbers)
 
 
 def usual_number(f, index):
