@@ -257,6 +257,9 @@ class MixtureTest(unittest.TestCase):
                          Share((HALF, 1, (3, 2)), ((1, 3), (1, 3), (1, 3))))
         self.assertEqual(as_share(Mixture(ANY, [0, (4, 2)], [HALF, HALF])), Share((0, 2), (HALF, HALF)))
         self.assertEqual(mean_of(Mixture(Shape("hump", 0), (0, 1), (HALF, HALF)), LINE), (1, 4))
+        self.assertEqual(mean_of(Mixture(ANY, [[0, 5], 1], [[1, 2], (2, 4)]), LINE), HALF)
+        self.assertEqual(as_share(Mixture(ANY, [[0, 5], 1], [[1, 2], (2, 4)])), Share((0, 1), (HALF, HALF)))
+        self.assertEqual(mean_of(Mixture(Shape("even hump", HALF), [[0, 2], [1, 4]], [HALF, [1, 2]]), LINE), HALF)
         self.assertEqual(mean_of(Mixture(Shape("even hump", HALF), ((1, 4),), (1,)), on(X * X)), (13, 48))
 
 

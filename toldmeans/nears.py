@@ -106,10 +106,10 @@ def sizes_of(search):
 def framed(search, bits, finer, aims):
     """The Frame of a question; aims tells whether its goal counts."""
     reach, most = sizes_of(search)
-    # At this price of each bound's unit a share that misses by a quarter of the gap beats all that miss by more
-    # than half of it.
+    # At this price of what is missed, a share that misses by a quarter of the gap goes ahead of all that miss by
+    # more than half of it; and no factor grows beyond it.
     price = (4 * reach) << bits if aims else 1
-    fine = bits + 12 + finer + max(price.bit_length(), (most + 1).bit_length())
+    fine = bits + 8 + finer + price.bit_length() + (most + 1).bit_length()
     return Frame(search, fine, 1 << (fine - bits), price)
 
 
@@ -127,7 +127,7 @@ def first_stage(frame):
 
 
 def grown(frame, stage, places, with_costs):
-    """The Stage with more places, raised."""
+    """The Stage with more places, raised; without costs their worths are 0 for now."""
     columns, costs = columns_of(frame.search, places, frame.bits)
     table = with_columns(stage.table, columns, costs if with_costs else [0 for _ in costs])
     table, _ = raised(table)
@@ -135,7 +135,7 @@ def grown(frame, stage, places, with_costs):
 
 
 def weight_items(frame, stage):
-    """The weights of all rows above 2 ** bits, but for those of the fixed rows above 1."""
+    """The weights of the fixed rows, as ratios of units of 2 ** -bits, and those of the bounds, above 2 ** bits."""
     many = len(frame.search.families[0].fixed)
     found = slack_items(stage.table, many + len(frame.search.bounds))[-1]
     fixed = [(item, stage.table.bottom) for item in found[:many]]
@@ -160,8 +160,8 @@ def bases_of(frame, fixed):
 
 
 def too_low(frame, bases, factors, aims, free, slack):
-    """How far the sum is too low at most, and the pairs of how far it is and of a place with its family at which it
-    is so by more than what is free."""
+    """How far the sum is too low at most, and where it is so by more than what is free: how far, with the index of
+    the family and the place."""
     worst = 0
     found = []
     for at, strips in enumerate(frame.strips):
@@ -181,7 +181,7 @@ def worth_adding(frame, found):
     places = []
     for number, at, place in found:
         if 4 * number >= most:
-            families = range(len(frame.search.families)) if frame.search.twins else [at]
+            families = list(range(len(frame.search.families))) if frame.search.twins else [at]
             places.extend([(family, place) for family in families])
     return places
 

@@ -122,9 +122,9 @@ def gathered(places, parts):
     """The Share with parts at places in any order, those at one place together; places are pairs."""
     found = {}
     for place, part in zip(places, parts):
-        found[place] = plus(found.get(place, (0, 1)), part)
+        found[place] = plus(found[place], part) if place in found else part
     row = in_order(list(found))
-    return Share(row, [found[place] for place in row])
+    return Share(row, [found[one] for one in row])
 
 
 def mixed(shares, parts):

@@ -6,7 +6,7 @@ from toldmeans.errors import BadNumber, BadRow
 from toldmeans.mixes import first_mix, parts_of, spare_of, weights_of, with_goal, without_spare
 from toldmeans.ratios import lower, minus, plus, times
 from toldmeans.rows import in_order, over_one_bottom
-from toldmeans.shares import Share, Told, check_one_stretch, functions_of
+from toldmeans.shares import Told, check_one_stretch, functions_of, gathered
 from toldmeans.sums import raised
 
 
@@ -71,26 +71,35 @@ def column_size(column):
     return size
 
 
+def times_each(row, by):
+    """A row of ratios, each times a number."""
+    return [times(number, by) for number in row]
+
+
+def without_divisor(row, number, step):
+    """A row of integers, the number on its right and its step, without a divisor that all of them share."""
+    most = gcd(number, step)
+    for item in row:
+        most = gcd(most, item)
+    return [item // most for item in row], number // most, step // most
+
+
 def exact_mix(rows, right, starts):
     """The mix for which the spare number is as small as can be; the first rows, one for each start, are fixed."""
     # What a whole row shares goes into its step, what a knot brings into all rows into its column's size:
     # so the integers stay far shorter than with one bottom for each row.
     steps = [row_step(row, number) for row, number in zip(rows, right)]
-    items = [[times(number, step) for number in row] for row, step in zip(rows, steps)]
+    items = [times_each(row, step) for row, step in zip(rows, steps)]
     sizes = [column_size(column) for column in zip(*items)]
-    table_rows = []
+    made = []
     numbers = []
     for k, row in enumerate(items):
-        made = [times(number, size)[0] for number, size in zip(row, sizes)]
-        number = times(right[k], steps[k])[0]
-        most = gcd(number, steps[k])
-        for item in made:
-            most = gcd(most, item)
-        table_rows.append([item // most for item in made])
-        numbers.append(number // most)
-        steps[k] = steps[k] // most
+        tops = [times(item, size)[0] for item, size in zip(row, sizes)]
+        tops, top, steps[k] = without_divisor(tops, times(right[k], steps[k])[0], steps[k])
+        made.append(tops)
+        numbers.append(top)
     spares = [0 for _ in starts] + steps[len(starts):]
-    table = first_mix([list(column) for column in zip(*table_rows)], numbers, spares, starts)
+    table = first_mix([list(column) for column in zip(*made)], numbers, spares, starts)
     table, _ = raised(with_goal(table, [0 for _ in sizes], -1))
     return Scaled(table, steps, sizes, 1)
 
@@ -171,11 +180,7 @@ def asked_rows(rows, knots):
 
 def share_at(knots, parts):
     """The Share with parts of knots by their index, those of one knot together, in any order."""
-    found = {}
-    for index, part in parts:
-        found[index] = plus(found.get(index, (0, 1)), part)
-    row = sorted(list(found))
-    return Share([knots[index] for index in row], [found[index] for index in row])
+    return gathered([knots[index] for index, _ in parts], [part for _, part in parts])
 
 
 def share_of(question, mix):

@@ -55,12 +55,7 @@ def worst_over(rows, low, high, over, under):
     # Where an order beyond an end is as good, so is the end.
     order = clipped(times(-1, weights[1]), low, high)
     factors = factors_of(bounds_of(rows), weights[2:], len(rows))
-    return Worst(cost, order, weights[0], factors, share_at(knots + knots, once_each(parts, len(knots))))
-
-
-def once_each(parts, many):
-    """The parts of knots that stand twice, told by the first index of each."""
-    return [(index if index < many else index - many, part) for index, part in parts]
+    return Worst(cost, order, weights[0], factors, share_at(knots + knots, parts))
 
 
 def first_within(held, ahead, order, most, costs):
