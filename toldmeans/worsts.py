@@ -23,7 +23,7 @@ class Worst:
 
 def question_knots(rows, low, high):
     """The knots of all rows, and both ends of the stretch."""
-    return knots_of([*functions_of(rows), constant(low, high, 0)])
+    return knots_of(functions_of(rows) + [constant(low, high, 0)])
 
 
 def clipped(number, low, high):
